@@ -1,0 +1,1 @@
+"""Routevan: a van's day along a line or a ring."""
