@@ -59,6 +59,19 @@ def check_order(day, order):
         raise BadOrder("a number stands in the order twice")
 
 
+def visit(day, place, leaves, number):
+    """Give when the van that leaves the place then comes to the stop, begins and leaves it.
+
+    None where the stop has closed when the van comes.
+    """
+    there, opens, closes, stay = day.stops[number]
+    comes = leaves + apart(day.road, place, there)
+    if comes > closes:
+        return None
+    begins = max(comes, opens)
+    return comes, begins, begins + stay
+
+
 def timetable(day, order):
     """Give for each stop of the order when the van comes, begins and leaves."""
     # All of the order is looked at first: BadOrder goes ahead of Missed.
@@ -67,14 +80,12 @@ def timetable(day, order):
     place = day.home
     leaves = day.start
     for number in order:
-        there, opens, closes, stay = day.stops[number]
-        comes = leaves + apart(day.road, place, there)
-        if comes > closes:
+        row = visit(day, place, leaves, number)
+        if row is None:
             raise Missed("the van comes to a stop that has closed")
-        begins = max(comes, opens)
-        leaves = begins + stay
-        place = there
-        rows.append((comes, begins, leaves))
+        rows.append(row)
+        place = day.stops[number][0]
+        leaves = row[2]
     return rows
 
 

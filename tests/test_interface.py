@@ -3,7 +3,7 @@
 import inspect
 import unittest
 
-from routevan import days, roads
+from routevan import days, notes, roads, tables, tours
 
 FUNCTIONS = (
     (roads, "apart", ["road", "one", "other"]),
@@ -11,6 +11,13 @@ FUNCTIONS = (
     (roads, "moved", ["road", "place", "by"]),
     (days, "timetable", ["day", "order"]),
     (days, "ends", ["day", "order"]),
+    (tables, "table", ["day", "begun"]),
+    (tables, "least", ["day", "begun"]),
+    (tours, "best", ["day"]),
+    (tours, "clash", ["day"]),
+    (tours, "told", ["day"]),
+    (notes, "written", ["day"]),
+    (notes, "read", ["text"]),
 )
 
 
@@ -38,6 +45,14 @@ class Interface(unittest.TestCase):
         self.assertEqual(roads.apart(road=ring, one=1, other=8), 2)
         self.assertEqual(roads.way(road=ring, one=1, other=8), -2)
         self.assertEqual(roads.moved(road=ring, place=1, by=-2), 8)
+        self.assertEqual(tables.table(day=day, begun=[]), {((0,), 0): (10, None)})
+        self.assertEqual(tables.least(day=day, begun=[0]), 12)
+        self.assertEqual(tours.best(day=day), [0])
+        self.assertIsNone(tours.clash(day=day))
+        self.assertEqual(tours.told(day=day), ("tour", [0], 12))
+        text = "ring 9\nhome 1 at 2\nstop 3 from 4 to 5 for 6\n"
+        self.assertEqual(notes.written(day=day), text)
+        self.assertIs(type(notes.read(text=text)), days.Day)
 
 
 if __name__ == "__main__":

@@ -5,15 +5,12 @@ from itertools import permutations
 
 from routevan.days import Day, ends, timetable
 from routevan.errors import BadOrder, Missed
+from tests.all_orders import state
 from tests.refusals import refusal
 
 FAR = 10 ** 9
 LATE = 10 ** 12
 ENDLESS = 10 ** 5000
-
-
-def state(day):
-    return (day.road, day.home, day.start, list(day.stops))
 
 
 def step(road, place, goal):
